@@ -1,0 +1,1 @@
+"""The kiln: firing programs are judged for a glass."""

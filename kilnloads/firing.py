@@ -1,0 +1,14 @@
+"""The calls. Each answers one list: 0 and what is told, or a refusal's numbers alone."""
+
+from kilnloads.programs import Glass, Kind, Shop
+from kilnloads.programs import first_broken, is_glass, is_kind, is_program, is_shop, segments_of
+
+
+def judge(s, a, f, t, up, down, cool, rest, kind_heat, hold, program):
+    """[0] if the program is right for the glass, the shop and the kind; else [0, rule, segment's number]."""
+    if not is_glass(s, a, f, t) or not is_shop(up, down, cool, rest):
+        return [-1]
+    if not is_kind(kind_heat, hold) or not is_program(program):
+        return [-1]
+    told = first_broken(segments_of(program), Glass(s, a, f, t), Shop(up, down, cool, rest), Kind(kind_heat, hold))
+    return [0] + told
