@@ -1,7 +1,7 @@
 """The calls. Each answers one list: 0 and what is told, or a refusal's numbers alone."""
 
 from kilnloads.programs import Glass, Kind, Shop
-from kilnloads.programs import first_broken, is_glass, is_kind, is_program, is_shop, segments_of
+from kilnloads.programs import first_broken, is_glass, is_kind, is_program, is_shop, program_time, segments_of
 
 
 def judge(s, a, f, t, up, down, cool, rest, kind_heat, hold, program):
@@ -12,3 +12,10 @@ def judge(s, a, f, t, up, down, cool, rest, kind_heat, hold, program):
         return [-1]
     told = first_broken(segments_of(program), Glass(s, a, f, t), Shop(up, down, cool, rest), Kind(kind_heat, hold))
     return [0] + told
+
+
+def time(program):
+    """[0, minutes]: how long the program takes."""
+    if not is_program(program):
+        return [-1]
+    return [0, program_time(segments_of(program))]

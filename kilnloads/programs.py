@@ -1,4 +1,4 @@
-"""Programs, glasses, shops and kinds: their bounds, and the rules by which a program is right."""
+"""Programs, glasses, shops and kinds: their bounds, a program's time, and the rules by which it is right."""
 
 KILN_STANDS_AT = 20
 COLD_ENOUGH = 40
@@ -86,6 +86,15 @@ def segments_of(program):
         segments.append(Segment(first, program[k], program[k + 1], program[k + 2]))
         first = program[k]
     return segments
+
+
+def segment_time(segment):
+    way = abs(segment.target - segment.first) * 60
+    return (way + segment.rate - 1) // segment.rate + segment.hold
+
+
+def program_time(segments):
+    return sum([segment_time(segment) for segment in segments])
 
 
 def rule_at_segment(segment, glass, shop):

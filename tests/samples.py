@@ -43,3 +43,16 @@ def programs_at_bounds():
         for number in SEGMENT_BOUNDS[place % 3]:
             taken.append(changed(RUN, place, number))
     return taken
+
+
+def minutes_of(program):
+    """The temperature at each minute, in sixtieths of a degree, gone through minute by minute."""
+    now = 20 * 60
+    minutes = [now]
+    for k in range(0, len(program), 3):
+        goal = program[k] * 60
+        while now != goal:
+            now = min(now + program[k + 1], goal) if now < goal else max(now - program[k + 1], goal)
+            minutes.append(now)
+        minutes += [now] * program[k + 2]
+    return minutes

@@ -6,7 +6,7 @@ import random
 import unittest
 
 from kilnloads.firing import judge
-from tests.samples import GREATEST, RUN, beyond, changed, programs_at_bounds, wrong_programs
+from tests.samples import GREATEST, RUN, beyond, changed, minutes_of, programs_at_bounds, wrong_programs
 
 # The run's glass, shop and kind, in the order of judge's arguments.
 GIVEN = {"s": 480, "a": 520, "f": 720, "t": 30, "up": 12000, "down": 400000, "cool": 6000, "rest": 1,
@@ -393,19 +393,6 @@ def some_cases(count):
         given["program"] = program
         cases.append(given)
     return cases
-
-
-def minutes_of(program):
-    """The temperature at each minute, in sixtieths of a degree, gone through minute by minute."""
-    now = 20 * 60
-    minutes = [now]
-    for k in range(0, len(program), 3):
-        goal = program[k] * 60
-        while now != goal:
-            now = min(now + program[k + 1], goal) if now < goal else max(now - program[k + 1], goal)
-            minutes.append(now)
-        minutes += [now] * program[k + 2]
-    return minutes
 
 
 class Promises(unittest.TestCase):
