@@ -1,1 +1,1 @@
-"""The kiln: firing programs are judged for a glass, and their time is told."""
+"""The kiln: firing programs are judged for a glass, and their time and temperatures are told."""

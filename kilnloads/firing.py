@@ -2,6 +2,7 @@
 
 from kilnloads.programs import Glass, Kind, Shop
 from kilnloads.programs import first_broken, is_glass, is_kind, is_program, is_shop, program_time, segments_of
+from kilnloads.programs import temperature_at
 
 
 def judge(s, a, f, t, up, down, cool, rest, kind_heat, hold, program):
@@ -19,3 +20,10 @@ def time(program):
     if not is_program(program):
         return [-1]
     return [0, program_time(segments_of(program))]
+
+
+def at(minute, program):
+    """[0, temperature at the minute, in sixtieths of a degree]; behind the program's time its last target."""
+    if not is_program(program):
+        return [-1]
+    return [0, temperature_at(segments_of(program), minute)]

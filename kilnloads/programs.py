@@ -1,4 +1,5 @@
-"""Programs, glasses, shops and kinds: their bounds, a program's time, and the rules by which it is right."""
+"""Programs, glasses, shops and kinds: their bounds, a program's time and temperatures,
+and the rules by which it is right."""
 
 KILN_STANDS_AT = 20
 COLD_ENOUGH = 40
@@ -95,6 +96,23 @@ def segment_time(segment):
 
 def program_time(segments):
     return sum([segment_time(segment) for segment in segments])
+
+
+def going_at(start, target, rate, minute):
+    """The temperature, in sixtieths of a degree, after so many minutes of going from start to target."""
+    if target < start:
+        return max(60 * target, 60 * start - minute * rate)
+    return min(60 * target, 60 * start + minute * rate)
+
+
+def temperature_at(segments, minute):
+    left = minute
+    for segment in segments:
+        lasts = segment_time(segment)
+        if left < lasts:
+            return going_at(segment.first, segment.target, segment.rate, left)
+        left = left - lasts
+    return 60 * segments[-1].target
 
 
 def rule_at_segment(segment, glass, shop):
