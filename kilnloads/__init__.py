@@ -1,1 +1,1 @@
-"""The kiln: firing programs are judged for a glass, and their time and temperatures are told."""
+"""The kiln: programs are judged for a glass, their temperatures told, painted panes parted into loads."""

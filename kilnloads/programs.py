@@ -1,6 +1,8 @@
 """Programs, glasses, shops and kinds: their bounds, a program's time and temperatures,
 and the rules by which it is right."""
 
+from kilnloads.bounds import is_within
+
 KILN_STANDS_AT = 20
 COLD_ENOUGH = 40
 HOTTEST = 1400
@@ -48,10 +50,6 @@ class Kind:
     def __init__(self, heat, hold):
         self.heat = heat
         self.hold = hold
-
-
-def is_within(number, least, greatest):
-    return least <= number and number <= greatest
 
 
 def is_segment(target, rate, hold):

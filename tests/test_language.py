@@ -15,7 +15,16 @@ LEFT_OUT = (ast.SetComp, ast.DictComp, ast.GeneratorExp, ast.NamedExpr, ast.Star
 
 # Python's own names that the package may use.
 OWN_NAMES = set("""len range enumerate zip min max sum abs sorted reversed int str bool list tuple dict set frozenset
-isinstance ord repr any all divmod""".split())
+isinstance ord repr any all divmod
+Exception ValueError KeyError IndexError LookupError ZeroDivisionError ArithmeticError OverflowError RuntimeError
+NotImplementedError StopIteration""".split())
+
+# Values of objects that may be called like a method of Python's own values.
+SHARED_VALUES = set("count index title find get join lower upper split strip copy add".split())
+
+# What is walked on the spot and not kept, and the calls in which it may stand.
+WALKED = {"zip", "enumerate", "reversed", "range"}
+WALKERS = {"list", "tuple", "dict", "sorted", "sum", "any", "all", "enumerate", "zip", "min", "max"}
 
 METHODS = set("""append clear copy count endswith extend find get index insert items join keys pop remove replace
 reverse setdefault split startswith strip update values bit_length""".split())
@@ -39,9 +48,21 @@ def bound_names(tree):
             names.add(node.arg)
         elif isinstance(node, ast.alias):
             names.add(node.name)
+        elif isinstance(node, ast.ExceptHandler) and node.name:
+            names.add(node.name)
         elif isinstance(node, ast.Name) and isinstance(node.ctx, ast.Store):
             names.add(node.id)
     return names
+
+
+def top_names(tree):
+    """The names that a file's top defines: functions, classes and plain values."""
+    names = [node.name for node in tree.body if isinstance(node, (ast.FunctionDef, ast.ClassDef))]
+    return names + [node.targets[0].id for node in tree.body if isinstance(node, ast.Assign)]
+
+
+def drawn_from(tree):
+    return [node.module for node in tree.body if isinstance(node, ast.ImportFrom)]
 
 
 class Files(unittest.TestCase):
@@ -96,10 +117,29 @@ class Forms(unittest.TestCase):
         for path, node in self.nodes(ast.ImportFrom):
             self.assertEqual(node.level, 0, path)
             self.assertIn(node.module, modules, path)
-            defined = [part.name for part in modules[node.module].body if hasattr(part, "name")]
             for name in node.names:
                 self.assertIsNone(name.asname, path)
-                self.assertIn(name.name, defined, path)
+                self.assertIn(name.name, top_names(modules[node.module]), path)
+
+    def test_imports_go_one_way(self):
+        left = {"kilnloads." + path.stem: set(drawn_from(tree)) for path, tree in self.trees}
+        while left:
+            free = {module for module, others in left.items() if not others & set(left)}
+            self.assertNotEqual(free, set(), left)
+            left = {module: others for module, others in left.items() if module not in free}
+
+    def test_each_name_of_the_top_once(self):
+        for path, tree in self.trees:
+            names = top_names(tree) + [name.name for node in tree.body if isinstance(node, ast.ImportFrom)
+                                       for name in node.names]
+            self.assertEqual(len(names), len(set(names)), path)
+            taken = {name for name in names if name not in top_names(tree)}
+            taken |= {node.name for node in tree.body if isinstance(node, ast.ClassDef)}
+            for node in ast.walk(tree):
+                if isinstance(node, ast.arg):
+                    self.assertNotIn(node.arg, taken, path)
+                elif isinstance(node, ast.Name) and isinstance(node.ctx, ast.Store):
+                    self.assertNotIn(node.id, taken, path)
 
     def test_names(self):
         builtin = set(dir(__builtins__) if not isinstance(__builtins__, dict) else __builtins__)
@@ -117,6 +157,32 @@ class Forms(unittest.TestCase):
         for path, node in self.nodes(ast.Call):
             if isinstance(node.func, ast.Attribute):
                 self.assertIn(node.func.attr, METHODS | own, (path, node.lineno))
+
+    def test_values_of_objects(self):
+        own = {name for kind in (str, int, list, dict, set, bytes) for name in dir(kind)} - SHARED_VALUES
+        for path, node in self.nodes(ast.Attribute):
+            if isinstance(node.ctx, ast.Store):
+                self.assertNotIn(node.attr, own, (path, node.lineno))
+
+    def test_walked_on_the_spot(self):
+        allowed = set()
+        for path, node in self.nodes(ast.For, ast.comprehension):
+            allowed.add(node.iter)
+        for path, node in self.nodes(ast.Call):
+            if isinstance(node.func, ast.Name) and node.func.id in WALKERS:
+                allowed |= set(node.args)
+        for path, node in self.nodes(ast.Call):
+            if isinstance(node.func, ast.Name) and node.func.id in WALKED:
+                self.assertIn(node, allowed, (path, node.lineno))
+
+    def test_is_and_errors(self):
+        for path, node in self.nodes(ast.Compare):
+            for sign, other in zip(node.ops, node.comparators):
+                if isinstance(sign, (ast.Is, ast.IsNot)):
+                    self.assertIsInstance(other, ast.Constant, (path, node.lineno))
+        own = {node.name for path, node in self.nodes(ast.ClassDef)}
+        for path, node in self.nodes(ast.ExceptHandler):
+            self.assertIn(getattr(node.type, "id", None), own, (path, node.lineno))
 
 
 if __name__ == "__main__":
