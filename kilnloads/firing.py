@@ -1,12 +1,11 @@
 """The calls. Each answers one list: 0 and what is told, or a refusal's numbers alone."""
 
-from kilnloads.cartoons import NoCartoon
-from kilnloads.coats import are_kinds, are_paintings, kinds_of, paintings_of
-from kilnloads.loading import NO_PANE, first_too_large, first_without_painting, pieces_of, row_of_loads
-from kilnloads.panes import panes_of
+from kilnloads.checking import first_wrong
+from kilnloads.loading import NO_PANE, first_too_large, row_of_loads
 from kilnloads.programs import Glass, Kind, Shop
 from kilnloads.programs import first_broken, is_glass, is_kind, is_program, is_shop, program_time, segments_of
 from kilnloads.programs import temperature_at
+from kilnloads.work import work_of
 
 
 def judge(s, a, f, t, up, down, cool, rest, kind_heat, hold, program):
@@ -35,22 +34,19 @@ def at(minute, program):
 
 def loads(shelf, cartoon, kinds, paintings):
     """[0, how many numbers the row has, ...]: load by load its kind, how many panes, their numbers."""
-    if not are_kinds(kinds):
-        return [-1]
-    known_kinds = kinds_of(kinds)
-    known_paintings = paintings_of(paintings)
-    if not are_paintings(known_paintings, known_kinds):
-        return [-1]
-    try:
-        panes = panes_of(cartoon)
-    except NoCartoon as broken:
-        return [-5, broken.rule, broken.place]
-    unknown = first_without_painting(panes, known_paintings)
-    if unknown != NO_PANE:
-        return [-3, unknown]
-    pieces = pieces_of(panes, known_paintings)
-    too_large = first_too_large(pieces, shelf)
+    work = work_of(cartoon, kinds, paintings)
+    if len(work.refusal) > 0:
+        return work.refusal
+    too_large = first_too_large(work.pieces, shelf)
     if too_large != NO_PANE:
         return [-3, too_large]
-    row = row_of_loads(known_kinds, pieces, shelf)
+    row = row_of_loads(work.kinds, work.pieces, shelf)
     return [0, len(row)] + row
+
+
+def check(shelf, cartoon, kinds, paintings, row):
+    """[0] if the row is loads of the cartoon's panes; else [0, what is first wrong, its place in the row]."""
+    work = work_of(cartoon, kinds, paintings)
+    if len(work.refusal) > 0:
+        return work.refusal
+    return [0] + first_wrong(row, work.kinds, work.pieces, shelf)

@@ -1,5 +1,6 @@
-"""What loads must answer, told a second time by other means: exact fractions, slabs and sets."""
+"""What loads and check must answer, told a second time by other means: exact fractions, slabs and sets."""
 
+import functools
 import itertools
 import struct
 from fractions import Fraction
@@ -219,22 +220,83 @@ def fitted(panes, areas, shelf):
     return loads
 
 
-def expected(shelf, data, heats, paintings):
-    """What loads answers: heats of the kinds, paintings as lists of kinds, all of which may be."""
-    broken, panes = judged(data)
+@functools.lru_cache(maxsize=4)
+def judged_once(data):
+    """For many calls with the same bytes."""
+    return judged(data)
+
+
+def looked_at(data, paintings):
+    """The refusal that loads and check share, or nothing; and the panes' areas and coats."""
+    broken, panes = judged_once(bytes(data))
     if broken:
-        return [-5] + broken
+        return [-5] + broken, [], []
     for k, (area, painting) in enumerate(panes):
         if painting > len(paintings):
-            return [-3, k]
+            return [-3, k], [], []
     coats = [paintings[painting - 1] if painting else [] for area, painting in panes]
-    areas = [area for area, painting in panes]
+    return [], [area for area, painting in panes], coats
+
+
+def expected(shelf, data, heats, paintings):
+    """What loads answers: heats of the kinds, paintings as lists of kinds, all of which may be."""
+    refusal, areas, coats = looked_at(data, paintings)
+    if refusal:
+        return refusal
     for k, area in enumerate(areas):
         if coats[k] and area > shelf:
             return [-3, k]
     row = []
     for heat, kind in sorted((-heat, kind) for kind, heat in enumerate(heats)):
-        order = sorted((-areas[n], n) for n in range(len(panes)) if kind in coats[n])
+        order = sorted((-areas[n], n) for n in range(len(areas)) if kind in coats[n])
         for load in fitted([n for area, n in order], areas, shelf):
             row += [kind, len(load)] + load
     return [0, len(row)] + row
+
+
+def parted(row):
+    """The loads of a row with their places; the last without panes where it isn't whole or has none."""
+    place = 0
+    while place < len(row):
+        size = row[place + 1] if place + 1 < len(row) else 0
+        panes = row[place + 2:place + 2 + size]
+        if not panes or len(panes) < size:
+            yield place, row[place], []
+            return
+        yield place, row[place], panes
+        place += 2 + size
+
+
+def wrong_in(load, heat_before, heats, areas, coats, seen, shelf):
+    """All of 1 to 5 that is wrong with one load."""
+    place, kind, panes = load
+    wrong = []
+    if not panes:
+        wrong.append((1, place))
+    if kind not in range(len(heats)):
+        wrong.append((2, place))
+    elif heats[kind] > heat_before:
+        wrong.append((3, place))
+    for k, pane in enumerate(panes):
+        if (pane, kind) not in {(n, coat) for n, kinds in enumerate(coats) for coat in kinds} or (pane, kind) in seen:
+            wrong.append((4, place + 2 + k))
+        seen.add((pane, kind))
+    if sum(areas[pane] for pane in panes if pane < len(areas)) > shelf:
+        wrong.append((5, place))
+    return wrong
+
+
+def expected_of_row(shelf, data, heats, paintings, row):
+    """What check answers: all that is wrong is gathered, load by load, and the least of it told."""
+    refusal, areas, coats = looked_at(data, paintings)
+    if refusal:
+        return refusal
+    seen = set()
+    wrong = []
+    heat_before = max(heats)
+    for number, load in enumerate(parted(row)):
+        wrong += [(number,) + told for told in wrong_in(load, heat_before, heats, areas, coats, seen, shelf)]
+        heat_before = heats[load[1]] if load[1] < len(heats) else heat_before
+    if {(n, coat) for n, kinds in enumerate(coats) for coat in kinds} - seen:
+        wrong.append((len(row), 6, len(row)))
+    return [0] + list(min(wrong)[1:]) if wrong else [0]

@@ -8,26 +8,12 @@ import unittest
 from kilnloads.firing import loads
 from tests import oracle
 from tests.drawn import CROSS, SMALLEST, drawn, grid, strips
+from tests.rows import kinds_row, loads_in, paintings_row, row_of
 from tests.samples import GREATEST, beyond, changed
 from tests.some_sheets import some_sheet, spoiled
+from tests.some_work import some_heats, some_paintings
 
 KINDS = [640, 5]
-
-
-def row_of(answer):
-    """The row of an answer that is no refusal."""
-    if answer[0] != 0 or answer[1] != len(answer) - 2:
-        raise AssertionError(answer)
-    return answer[2:]
-
-
-def loads_in(row):
-    """The loads of a row: (kind, [panes])."""
-    found = []
-    while row:
-        found.append((row[0], row[2:2 + row[1]]))
-        row = row[2 + row[1]:]
-    return found
 
 
 def told(shelf, sheet, kinds, paintings):
@@ -426,22 +412,6 @@ class ByItself(unittest.TestCase):
         self.assertEqual(out.getvalue() + err.getvalue(), "")
 
 
-def some_heats(draw):
-    return [draw.choice([600, 620, 640, draw.randint(1, 1400)]) for _ in range(draw.randint(1, 6))]
-
-
-def some_paintings(draw, heats):
-    """Paintings that may be: kinds with heats that fall."""
-    paintings = []
-    for _ in range(draw.randint(0, 6)):
-        coats = []
-        for kind in sorted(range(len(heats)), key=lambda kind: -heats[kind]):
-            if len(coats) < 4 and draw.random() < 0.6 and (not coats or heats[kind] < heats[coats[-1]]):
-                coats.append(kind)
-        paintings.append(coats or [draw.randrange(len(heats))])
-    return paintings
-
-
 class ByChance(unittest.TestCase):
     """Against the oracle, over cartoons and broken ones that are drawn from a fixed seed; and promise 3."""
 
@@ -461,8 +431,7 @@ class ByChance(unittest.TestCase):
     @classmethod
     def answer(cls, case):
         shelf, data, heats, paintings = case
-        kinds = [number for heat in heats for number in (heat, 5)]
-        return loads(shelf, list(data), kinds, [number for coats in paintings for number in [len(coats)] + coats])
+        return loads(shelf, list(data), kinds_row(heats), paintings_row(paintings))
 
     def test_as_the_oracle_tells(self):
         for case, answer in zip(self.cases, self.answers):
