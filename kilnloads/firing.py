@@ -3,8 +3,8 @@
 from kilnloads.checking import first_wrong
 from kilnloads.loading import NO_PANE, first_too_large, row_of_loads
 from kilnloads.programs import Glass, Kind, Shop
-from kilnloads.programs import first_broken, is_glass, is_kind, is_program, is_shop, program_time, segments_of
-from kilnloads.programs import temperature_at
+from kilnloads.programs import first_broken, going_at, is_glass, is_kind, is_program, is_shop, program_time
+from kilnloads.programs import segments_of, temperature_at
 from kilnloads.work import work_of
 
 
@@ -50,3 +50,8 @@ def check(shelf, cartoon, kinds, paintings, row):
     if len(work.refusal) > 0:
         return work.refusal
     return [0] + first_wrong(row, work.kinds, work.pieces, shelf)
+
+
+def heat(start, target, rate, minute):
+    """[0, temperature]: in sixtieths of a degree, after so many minutes of going from start to target by rate."""
+    return [0, going_at(start, target, rate, minute)]

@@ -2,11 +2,10 @@
 
 import contextlib
 import io
-import random
 import unittest
 
 from kilnloads.firing import judge
-from tests.samples import GREATEST, RUN, beyond, changed, minutes_of, programs_at_bounds, wrong_programs
+from tests.samples import GREATEST, RUN, beyond, changed, programs_at_bounds, wrong_programs
 
 # The run's glass, shop and kind, in the order of judge's arguments.
 GIVEN = {"s": 480, "a": 520, "f": 720, "t": 30, "up": 12000, "down": 400000, "cool": 6000, "rest": 1,
@@ -374,59 +373,6 @@ class ByItself(unittest.TestCase):
             judged()
             judged(t=0)
         self.assertEqual(out.getvalue() + err.getvalue(), "")
-
-
-def some_cases(count):
-    """Judge's arguments, drawn from a fixed seed so that every rule is met and many programs are right."""
-    draw = random.Random(40)
-    cases = []
-    for _ in range(count):
-        given = {"s": draw.randint(30, 60), "t": draw.randint(1, 6), "up": draw.randint(20, 1500),
-                 "down": draw.randint(20, 1500), "cool": draw.randint(20, 1500), "rest": draw.randint(0, 2),
-                 "kind_heat": draw.randint(1, 60), "hold": draw.randint(0, 4)}
-        given["a"] = given["s"] + draw.randint(1, 10)
-        given["f"] = given["a"] + draw.randint(5, 40)
-        program = []
-        for _ in range(draw.randint(1, 5)):
-            program += [draw.randint(0, 90), draw.randint(1, 200), draw.randint(0, 12)]
-        program += [draw.randint(20, 41), draw.randint(1, 200), 0]
-        given["program"] = program
-        cases.append(given)
-    return cases
-
-
-class Promises(unittest.TestCase):
-    @classmethod
-    def setUpClass(cls):
-        cases = some_cases(20000)
-        cls.right = [case for case in cases if judged(**case) == [0]]
-        cls.told = [judged(**case)[1] for case in cases if len(judged(**case)) == 3]
-
-    def test_every_rule_is_met(self):
-        self.assertGreater(len(self.right), 300)
-        self.assertEqual(sorted(set(self.told)), [1, 2, 3, 4, 5, 6, 7])
-
-    def test_2_no_minute_goes_faster_than_the_glass_lets(self):
-        for case in self.right:
-            minutes = minutes_of(case["program"])
-            s, a, t = case["s"] * 60, case["a"] * 60, case["t"]
-            for now, then in zip(minutes, minutes[1:]):
-                if then > now and now < a:
-                    self.assertLessEqual((then - now) * t, case["up"], case)
-                if then < now and now > s and then < a:
-                    self.assertLessEqual((now - then) * t, case["down"], case)
-                if then < now and then < s:
-                    self.assertLessEqual((now - then) * t, case["cool"], case)
-
-    def test_4_what_is_right_stays_right(self):
-        for case in self.right:
-            for name in ("up", "down", "cool"):
-                for number in (case[name] + 1, 1000000):
-                    self.assertEqual(judged(**{**case, name: number}), [0])
-            for rest in range(case["rest"]):
-                self.assertEqual(judged(**{**case, "rest": rest}), [0])
-            for t in range(1, case["t"]):
-                self.assertEqual(judged(**{**case, "t": t}), [0])
 
 
 if __name__ == "__main__":
