@@ -1,12 +1,11 @@
 """check: what is told of a row of loads, what is told first, the refusals, and what is promised of it."""
 
-import contextlib
-import io
 import random
 import unittest
 
 from kilnloads.firing import check, loads
 from tests import oracle
+from tests.by_itself import CallsByItself
 from tests.drawn import CROSS, SMALLEST, drawn, grid, strips
 from tests.rows import kinds_row, loads_in, paintings_row, row_from, row_of
 from tests.samples import GREATEST, beyond, changed
@@ -498,7 +497,7 @@ class Large(unittest.TestCase):
         self.assertEqual(checked(changed(row, 2051, 0), 16, sheet, kinds, [4, 0, 1, 2, 3]), [0, 4, 2051])
 
 
-class ByItself(unittest.TestCase):
+class ByItself(CallsByItself, unittest.TestCase):
     CALLS = [(SHELF, SHEET.data(), KINDS, PAINTINGS, ROW), (0, SHEET.data(), KINDS, PAINTINGS, ROW),
              (SHELF, SHEET.data(), KINDS, PAINTINGS, ROW[:-1]), (SHELF, SHEET.data(), KINDS, PAINTINGS, []),
              (SHELF, SHEET.data(), KINDS, PAINTINGS, changed(ROW, 3, 0)),
@@ -507,32 +506,8 @@ class ByItself(unittest.TestCase):
              (SHELF, SHEET.data()[:-1], KINDS, PAINTINGS, ROW), (SHELF, SHEET.data(), [600], PAINTINGS, ROW),
              (SHELF, SHEET.data(), KINDS, [2, 1], ROW), (0, CROSS.data(), KINDS, [], [])]
 
-    def call(self, given):
-        return check(given[0], *[list(numbers) for numbers in given[1:]])
-
-    def test_lists_stay_as_they_were(self):
-        for given in self.CALLS:
-            handed = [list(numbers) for numbers in given[1:]]
-            check(given[0], *handed)
-            self.assertEqual(handed, list(given[1:]))
-
-    def test_second_call_answers_as_the_first(self):
-        first = [self.call(given) for given in self.CALLS]
-        self.assertEqual([self.call(given) for given in self.CALLS], first)
-        self.assertEqual([self.call(given) for given in reversed(self.CALLS)], first[::-1])
-
-    def test_answer_is_the_callers_own(self):
-        for given in self.CALLS:
-            answer = self.call(given)
-            expected = list(answer)
-            answer.append(7)
-            self.assertEqual(self.call(given), expected)
-
-    def test_prints_nothing(self):
-        with contextlib.redirect_stdout(io.StringIO()) as out, contextlib.redirect_stderr(io.StringIO()) as err:
-            for given in self.CALLS:
-                self.call(given)
-        self.assertEqual(out.getvalue() + err.getvalue(), "")
+    def called(self, *given):
+        return check(*given)
 
 
 class ByChance(unittest.TestCase):

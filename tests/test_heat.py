@@ -1,12 +1,11 @@
 """heat: the temperature after so many minutes of going, its edges, and that it is what at tells."""
 
-import contextlib
-import io
 import itertools
 import random
 import unittest
 
 from kilnloads.firing import at, heat
+from tests.by_itself import CallsByItself
 from tests.samples import GREATEST
 
 
@@ -142,26 +141,11 @@ class BeyondAProgram(unittest.TestCase):
         self.assertEqual(heat(GREATEST - 1, GREATEST, 59, 1), [0, 60 * GREATEST - 1])
 
 
-class ByItself(unittest.TestCase):
+class ByItself(CallsByItself, unittest.TestCase):
     CALLS = [(20, 540, 300, 7), (540, 20, 300, 7), (20, 20, 300, 7), (0, 0, 0, 0), (20, 540, 300, GREATEST)]
 
-    def test_second_call_answers_as_the_first(self):
-        first = [heat(*given) for given in self.CALLS]
-        self.assertEqual([heat(*given) for given in self.CALLS], first)
-        self.assertEqual([heat(*given) for given in reversed(self.CALLS)], first[::-1])
-
-    def test_answer_is_the_callers_own(self):
-        for given in self.CALLS:
-            answer = heat(*given)
-            expected = list(answer)
-            answer.append(7)
-            self.assertEqual(heat(*given), expected)
-
-    def test_prints_nothing(self):
-        with contextlib.redirect_stdout(io.StringIO()) as out, contextlib.redirect_stderr(io.StringIO()) as err:
-            for given in self.CALLS:
-                heat(*given)
-        self.assertEqual(out.getvalue() + err.getvalue(), "")
+    def called(self, *given):
+        return heat(*given)
 
 
 class ByChance(unittest.TestCase):

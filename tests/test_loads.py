@@ -1,12 +1,11 @@
 """loads: the row that is told, the refusals in their order, and what is promised of it."""
 
-import contextlib
-import io
 import random
 import unittest
 
 from kilnloads.firing import loads
 from tests import oracle
+from tests.by_itself import CallsByItself
 from tests.drawn import CROSS, SMALLEST, drawn, grid, strips
 from tests.rows import kinds_row, loads_in, paintings_row, row_of
 from tests.samples import GREATEST, beyond, changed
@@ -376,40 +375,15 @@ class RefusedInOrder(unittest.TestCase):
         self.assertEqual(loads(8 * 16 - 1, sheet.data(), KINDS, [1, 0]), [-3, 1])
 
 
-class ByItself(unittest.TestCase):
+class ByItself(CallsByItself, unittest.TestCase):
     CALLS = [(320, strips([10, 20, 3], [1, 2, 1]).data(), [600, 5, 650, 5], [2, 1, 0, 1, 0]),
              (9, strips([10, 20, 3], [1, 2, 1]).data(), [600, 5, 650, 5], [2, 1, 0, 1, 0]),
              (9, CROSS.data()[:-1], [600, 5], []), (9, CROSS.data(), [600, 5], [1]), (9, [], [600], [1, 0]),
              (9, CROSS.data()[:-12], [600, 5], []), (9, strips([9, 9], [1, 2]).data(), [600, 5], [1, 0]),
              (900, CROSS.data(), [600, 5], []), (9, CROSS.but(marks=CROSS.marks[::-1]).data(), [600, 5], [])]
 
-    def call(self, given):
-        shelf, cartoon, kinds, paintings = given
-        return loads(shelf, list(cartoon), list(kinds), list(paintings))
-
-    def test_lists_stay_as_they_were(self):
-        for shelf, cartoon, kinds, paintings in self.CALLS:
-            handed = [list(cartoon), list(kinds), list(paintings)]
-            loads(shelf, *handed)
-            self.assertEqual(handed, [cartoon, kinds, paintings])
-
-    def test_second_call_answers_as_the_first(self):
-        first = [self.call(given) for given in self.CALLS]
-        self.assertEqual([self.call(given) for given in self.CALLS], first)
-        self.assertEqual([self.call(given) for given in reversed(self.CALLS)], first[::-1])
-
-    def test_answer_is_the_callers_own(self):
-        for given in self.CALLS:
-            answer = self.call(given)
-            expected = list(answer)
-            answer.append(7)
-            self.assertEqual(self.call(given), expected)
-
-    def test_prints_nothing(self):
-        with contextlib.redirect_stdout(io.StringIO()) as out, contextlib.redirect_stderr(io.StringIO()) as err:
-            for given in self.CALLS:
-                self.call(given)
-        self.assertEqual(out.getvalue() + err.getvalue(), "")
+    def called(self, *given):
+        return loads(*given)
 
 
 class ByChance(unittest.TestCase):
